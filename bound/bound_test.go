@@ -1,0 +1,36 @@
+package bound_test
+
+import (
+	"math"
+	"testing"
+
+	"quorate/api"
+	"quorate/bound"
+)
+
+func TestNodes(t *testing.T) {
+	for n, want := range map[int]bool{math.MinInt: false, -1: false, 0: false, 1: true, 5: true, 9: true, 10: false, math.MaxInt: false} {
+		if bound.IsNode(n) != want {
+			t.Errorf("IsNode(%d) is not %v", n, want)
+		}
+	}
+}
+
+func TestNumbersAndCounts(t *testing.T) {
+	for n, want := range map[int][2]bool{
+		math.MinInt:       {false, false},
+		-1:                {false, false},
+		0:                 {true, false},
+		1:                 {true, true},
+		api.MaxNumber:     {true, true},
+		api.MaxNumber + 1: {false, false},
+		math.MaxInt:       {false, false},
+	} {
+		if got := [2]bool{bound.AreNumbers(1, n, 1), bound.AreCounts(1, n, 1)}; got != want {
+			t.Errorf("of %d: %v, want %v", n, got, want)
+		}
+	}
+	if !bound.AreNumbers() || !bound.AreCounts() {
+		t.Error("of none all are")
+	}
+}
