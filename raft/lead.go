@@ -5,6 +5,7 @@ import (
 
 	"quorate/api"
 	"quorate/config"
+	"quorate/own"
 	"quorate/rlog"
 	"quorate/track"
 	"quorate/wire"
@@ -107,7 +108,7 @@ func (n *Node) sendTo(at int) {
 	p, prev, count, snapshot := track.Plan(n.progress[at], n.log)
 	n.progress[at] = p
 	if snapshot {
-		n.post(api.Message{Kind: api.Install, To: p.Node, Snapshot: copySnapshot(n.snapshot), Context: n.lastRound})
+		n.post(api.Message{Kind: api.Install, To: p.Node, Snapshot: own.Snapshot(n.snapshot), Context: n.lastRound})
 		return
 	}
 	term, _ := rlog.TermAt(n.log, prev)

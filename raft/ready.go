@@ -2,6 +2,7 @@ package raft
 
 import (
 	"quorate/api"
+	"quorate/own"
 	"quorate/rlog"
 )
 
@@ -24,7 +25,7 @@ func (w *news) puts(first int) {
 
 // installs: a snapshot took the place of the log, and of what was new in it.
 func (w *news) installs(x api.Snapshot) {
-	w.snapshot, w.first = copySnapshot(x), 0
+	w.snapshot, w.first = own.Snapshot(x), 0
 }
 
 // post: a message; of most the term is the hard state's.

@@ -4,6 +4,7 @@ import (
 	"slices"
 
 	"quorate/api"
+	"quorate/own"
 	"quorate/rlog"
 	"quorate/track"
 	"quorate/wire"
@@ -163,7 +164,7 @@ func (n *Node) install(x api.Snapshot) {
 		return
 	}
 	n.log = api.Log{Base: x.Index, BaseTerm: x.Term}
-	n.rebase(copySnapshot(x))
+	n.rebase(own.Snapshot(x))
 	n.applied = x.Index
 	n.news.installs(n.snapshot)
 }

@@ -6,6 +6,7 @@ import (
 	"quorate/api"
 	"quorate/bound"
 	"quorate/config"
+	"quorate/own"
 	"quorate/rlog"
 	"quorate/wire"
 )
@@ -21,8 +22,8 @@ func New(s api.Start) (*Node, api.Errno) {
 		lease:    s.Lease,
 		hard:     s.Hard,
 		log:      rlog.Clone(s.Log),
-		first:    copyConfig(s.Config),
-		snapshot: copySnapshot(s.Snapshot),
+		first:    own.Config(s.Config),
+		snapshot: own.Snapshot(s.Snapshot),
 		role:     api.Follower,
 		applied:  s.Log.Base,
 		news:     news{hard: s.Hard},
