@@ -17,3 +17,19 @@ func Snapshot(x api.Snapshot) api.Snapshot {
 	x.Config = Config(x.Config)
 	return x
 }
+
+// Table: in memory of its own.
+func Table(t api.Table) api.Table {
+	t.Pairs = slices.Clone(t.Pairs)
+	t.Sessions = slices.Clone(t.Sessions)
+	for i := range t.Sessions {
+		t.Sessions[i].Answer = Result(t.Sessions[i].Answer)
+	}
+	return t
+}
+
+// Result: in memory of its own.
+func Result(r api.Result) api.Result {
+	r.Keys = slices.Clone(r.Keys)
+	return r
+}

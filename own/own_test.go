@@ -36,11 +36,46 @@ func TestCopies(t *testing.T) {
 	}
 }
 
+func TestCopiesOfTables(t *testing.T) {
+	keys := []string{"a", "b", "spare"}
+	pairs := []api.Pair{{Key: "a", Value: "x", Version: 1}, {Key: "spare"}}
+	sessions := []api.Session{{Client: 2, Last: 1, Answer: api.Result{Kind: api.Done, Keys: keys[:2]}, Seen: 4}, {Client: 9}}
+	x := api.Table{Pairs: pairs[:1], Sessions: sessions[:1], Time: 5}
+	was := fmt.Sprintf("%+v", []any{x, keys, pairs, sessions})
+	if got := own.Table(x); fmt.Sprint(got) != fmt.Sprint(x) {
+		t.Errorf("Table(%+v): %+v", x, got)
+	}
+	if got := own.Result(sessions[0].Answer); fmt.Sprint(got) != fmt.Sprint(sessions[0].Answer) {
+		t.Errorf("Result: %+v", got)
+	}
+	for _, l := range [][]string{own.Table(x).Sessions[0].Answer.Keys, own.Result(sessions[0].Answer).Keys} {
+		for i := range l[:cap(l)] {
+			l[:cap(l)][i] = "over"
+		}
+	}
+	c := own.Table(x)
+	for i := range c.Pairs[:cap(c.Pairs)] {
+		c.Pairs[:cap(c.Pairs)][i].Key = "over"
+	}
+	for i := range c.Sessions[:cap(c.Sessions)] {
+		c.Sessions[:cap(c.Sessions)][i].Client = 88
+	}
+	if got := fmt.Sprintf("%+v", []any{x, keys, pairs, sessions}); got != was {
+		t.Errorf("copies share memory: %s; it was %s", got, was)
+	}
+}
+
 func TestOfNothing(t *testing.T) {
 	if got := own.Config(api.Config{}); fmt.Sprint(got) != fmt.Sprint(api.Config{}) {
 		t.Errorf("Config of nothing: %+v", got)
 	}
 	if got := own.Snapshot(api.Snapshot{}); fmt.Sprint(got) != fmt.Sprint(api.Snapshot{}) {
 		t.Errorf("Snapshot of nothing: %+v", got)
+	}
+	if got := own.Table(api.Table{}); fmt.Sprint(got) != fmt.Sprint(api.Table{}) {
+		t.Errorf("Table of nothing: %+v", got)
+	}
+	if got := own.Result(api.Result{}); fmt.Sprint(got) != fmt.Sprint(api.Result{}) {
+		t.Errorf("Result of nothing: %+v", got)
 	}
 }
