@@ -8,6 +8,16 @@ func IsNode(n int) bool {
 	return 1 <= n && n <= api.MaxNode
 }
 
+// AreRising: are these all nodes, rising, none twice?
+func AreRising(nodes []int) bool {
+	for i, n := range nodes {
+		if !IsNode(n) || i > 0 && nodes[i-1] >= n {
+			return false
+		}
+	}
+	return true
+}
+
 // AreNumbers: are these all from 0 to MaxNumber?
 func AreNumbers(l ...int) bool {
 	return areFrom(0, l)

@@ -16,6 +16,19 @@ func TestNodes(t *testing.T) {
 	}
 }
 
+func TestRising(t *testing.T) {
+	for _, l := range [][]int{nil, {}, {1}, {9}, {1, 2}, {1, 3, 9}, {1, 2, 3, 4, 5, 6, 7, 8, 9}} {
+		if !bound.AreRising(l) {
+			t.Errorf("%v are not taken", l)
+		}
+	}
+	for _, l := range [][]int{{0}, {10}, {-1, 1}, {1, 10}, {2, 1}, {1, 1}, {1, 3, 2}, {1, 2, 2}, {math.MinInt, 1}, {1, math.MaxInt}} {
+		if bound.AreRising(l) {
+			t.Errorf("%v are taken", l)
+		}
+	}
+}
+
 func TestNumbersAndCounts(t *testing.T) {
 	for n, want := range map[int][2]bool{
 		math.MinInt:       {false, false},

@@ -13,7 +13,7 @@ const MaxOps = 6
 
 // Valid: may a configuration be?
 func Valid(c api.Config) bool {
-	if len(c.Voters) == 0 || !areNodes(c.Voters) || !areNodes(c.Next) || !areNodes(c.Learners) {
+	if len(c.Voters) == 0 || !bound.AreRising(c.Voters) || !bound.AreRising(c.Next) || !bound.AreRising(c.Learners) {
 		return false
 	}
 	voting := func(n int) bool { return Votes(c, n) }
@@ -51,16 +51,6 @@ func Quorum(c api.Config, have []int) bool {
 func Lost(c api.Config, without []int) bool {
 	gone := func(n int) bool { return slices.Contains(without, n) }
 	return !Quorum(c, slices.DeleteFunc(Members(c), gone))
-}
-
-// areNodes: is a list one of nodes, rising, none twice?
-func areNodes(l []int) bool {
-	for i, n := range l {
-		if !bound.IsNode(n) || i > 0 && l[i-1] >= n {
-			return false
-		}
-	}
-	return true
 }
 
 // isMajority: are more than half of the voters among these?
