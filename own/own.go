@@ -33,3 +33,12 @@ func Result(r api.Result) api.Result {
 	r.Keys = slices.Clone(r.Keys)
 	return r
 }
+
+// Calls: in memory of their own.
+func Calls(l []api.Call) []api.Call {
+	l = slices.Clone(l)
+	for i := range l {
+		l[i].Result = Result(l[i].Result)
+	}
+	return l
+}

@@ -65,7 +65,29 @@ func TestCopiesOfTables(t *testing.T) {
 	}
 }
 
+func TestCalls(t *testing.T) {
+	keys := []string{"a", "b", "spare"}
+	calls := []api.Call{{From: 1, To: 2, Client: 3, Number: 4, Command: api.Command{Kind: api.List}, Result: api.Result{Kind: api.Done, Keys: keys[:2]}}, {From: 5, Err: api.ErrLeader}, {From: 9}}
+	was := fmt.Sprintf("%+v", []any{keys, calls})
+	got := own.Calls(calls[:2])
+	if fmt.Sprint(got) != fmt.Sprint(calls[:2]) {
+		t.Errorf("Calls(%+v): %+v", calls[:2], got)
+	}
+	for i := range got[0].Result.Keys[:cap(got[0].Result.Keys)] {
+		got[0].Result.Keys[:cap(got[0].Result.Keys)][i] = "over"
+	}
+	for i := range got[:cap(got)] {
+		got[:cap(got)][i].From = 88
+	}
+	if now := fmt.Sprintf("%+v", []any{keys, calls}); now != was {
+		t.Errorf("copies share memory: %s; it was %s", now, was)
+	}
+}
+
 func TestOfNothing(t *testing.T) {
+	if got := own.Calls(nil); len(got) != 0 {
+		t.Errorf("Calls of nothing: %+v", got)
+	}
 	if got := own.Config(api.Config{}); fmt.Sprint(got) != fmt.Sprint(api.Config{}) {
 		t.Errorf("Config of nothing: %+v", got)
 	}
