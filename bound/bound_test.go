@@ -47,3 +47,22 @@ func TestNumbersAndCounts(t *testing.T) {
 		t.Error("of none all are")
 	}
 }
+
+func TestDecimal(t *testing.T) {
+	for text, want := range map[string]int{"2": 2, "3": 3, "9": 9, "10": 10, "120": 120} {
+		if n, is := bound.Decimal(text, 2, 120); n != want || !is {
+			t.Errorf("Decimal(%q): %d, %v", text, n, is)
+		}
+	}
+	for _, text := range []string{"", "1", "0", "121", "1000", "-3", "+3", "03", "003", " 3", "3 ", "3.", "3e1", "0x3", "1_0", "3\n", "\u0663", "x", "18446744073709551619"} {
+		if n, is := bound.Decimal(text, 2, 120); n != 0 || is {
+			t.Errorf("Decimal(%q): %d, %v: it is taken", text, n, is)
+		}
+	}
+	if n, is := bound.Decimal("0", 0, 0); n != 0 || !is {
+		t.Error("nought is not taken")
+	}
+	if n, is := bound.Decimal("-0", -1, 1); n != 0 || is {
+		t.Error("nought with a sign is taken")
+	}
+}

@@ -1,8 +1,6 @@
 package front
 
 import (
-	"strconv"
-
 	"quorate/api"
 	"quorate/bound"
 )
@@ -88,11 +86,10 @@ func (r *reader) value() string {
 	return r.text(0, api.MaxValue)
 }
 
-// number: a sign and noughts ahead are not to be taken, so that the word must be just what the number is written as.
 func (r *reader) number() int {
 	w := r.next()
-	n, err := strconv.Atoi(w.text)
-	must(err == nil && bound.AreNumbers(n) && strconv.Itoa(n) == w.text, api.ErrCommand, w.at)
+	n, is := bound.Decimal(w.text, 0, api.MaxNumber)
+	must(is, api.ErrCommand, w.at)
 	return n
 }
 

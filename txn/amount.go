@@ -5,6 +5,7 @@ import (
 	"strings"
 
 	"quorate/api"
+	"quorate/bound"
 	"quorate/kv"
 )
 
@@ -51,7 +52,7 @@ func (a amount) text() string {
 // read: what a text says; one that says no amount says 0, held by nobody.
 func read(text string) amount {
 	l := strings.Split(text, " ")
-	number, isNumber := readNumber(l[0], 0, api.MaxAmount)
+	number, isNumber := bound.Decimal(l[0], 0, api.MaxAmount)
 	switch {
 	case !isNumber:
 		return amount{}
@@ -60,18 +61,12 @@ func read(text string) amount {
 	case len(l) != 3:
 		return amount{}
 	}
-	holder, isHolder := readNumber(l[1], 1, api.MaxTxn)
-	then, isThen := readNumber(l[2], 0, api.MaxAmount)
+	holder, isHolder := bound.Decimal(l[1], 1, api.MaxTxn)
+	then, isThen := bound.Decimal(l[2], 0, api.MaxAmount)
 	if !isHolder || !isThen {
 		return amount{}
 	}
 	return amount{number: number, holder: holder, then: then}
-}
-
-// readNumber: from least to most, written just as it would be here: without a sign, without noughts ahead.
-func readNumber(text string, least, most int) (int, bool) {
-	n, err := strconv.Atoi(text)
-	return n, err == nil && least <= n && n <= most && strconv.Itoa(n) == text
 }
 
 // said: the value that a result tells; what is not OK tells none.
